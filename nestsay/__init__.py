@@ -1,0 +1,1 @@
+"""Nestsay: sayings about what lies in which room of what."""

@@ -1,0 +1,25 @@
+"""The names of the interface: where each is defined, and the names of its arguments."""
+
+import importlib
+import inspect
+import unittest
+
+NAMES = {
+    "rooms": {"made_rooms": "thing", "is_rooms": "thing"},
+    "forests": {"made_forest": "rooms forest", "is_forest": "rooms forest", "around_of": "rooms forest x",
+                "beneath": "rooms forest x", "hung": "rooms forest x place"},
+    "standings": {"standings": "rooms x y", "turned": "standing", "standing": "rooms forest x y"},
+    "sayings": {"is_saying": "rooms saying", "contrary": "rooms saying", "about": "saying"},
+}
+
+
+class Interface(unittest.TestCase):
+
+    def test_each_name_is_defined_where_it_is_listed(self):
+        for file, functions in NAMES.items():
+            module = importlib.import_module("nestsay." + file)
+            for name, told in functions.items():
+                function = getattr(module, name)
+                self.assertTrue(inspect.isfunction(function), name)
+                self.assertEqual(function.__module__, "nestsay." + file)
+                self.assertEqual(list(inspect.signature(function).parameters), told.split(), name)
