@@ -1,11 +1,12 @@
 """What the tests share: their own look at forests, sayings and books, by plain going through."""
 
 import itertools
+import random
+import signal
 import unittest
 
 from nestsay import errors
 
-FLOOR = None
 APART = ("apart", 0)
 
 
@@ -174,6 +175,130 @@ def swapped(standing):
     return {"in": "around", "around": "in", "apart": "apart"}[standing[0]], standing[1]
 
 
+class Ended(Exception):
+    """The walk met a part that has no free thing."""
+
+
+class Look:
+    """A slow look at a book, word by word as the document tells it."""
+
+    def __init__(self, book):
+        self.rooms, self.sayings = book
+        self.things = tuple(range(len(self.rooms)))
+        self.lets = {(x, y): self.read_let(x, y) for x in self.things for y in self.things if x != y}
+
+    def read_let(self, x, y):
+        found = all_standings(self.rooms, x, y)
+        for one, other, lets in self.sayings:
+            if one == x and other == y:
+                found = [each for each in found if each in lets]
+            elif one == y and other == x:
+                found = [each for each in found if swapped(each) in lets]
+        return tuple(found)
+
+    def broken(self, forest):
+        for index, (x, y, lets) in enumerate(self.sayings):
+            if stands(forest, x, y) not in lets:
+                return index
+        return None
+
+    def linked(self, x, y):
+        return APART not in self.lets[x, y]
+
+    def parts(self, lot):
+        found = []
+        for x in lot:
+            near = [part for part in found if any(self.linked(x, y) for y in part)]
+            found = [part for part in found if part not in near] + [tuple(sorted(sum(near, (x,))))]
+        return tuple(sorted(found))
+
+    def over(self, t, part):
+        return tuple(i for i in range(self.rooms[t]) if all(("around", i) in self.lets[t, c] for c in part))
+
+    def free(self, lot):
+        return tuple(t for t in lot if all(self.over(t, part) for part in self.parts(less(lot, t))))
+
+    def walk(self, order):
+        """The forest, or the part that ended the walk, beside None."""
+        forest = [None] * len(self.rooms)
+        try:
+            self.lay(forest, self.things, None, order)
+        except Ended as why:
+            return None, why.args[0]
+        return tuple(forest), None
+
+    def lay(self, forest, lot, holder, order):
+        for part in self.parts(lot):
+            found = self.free(part)
+            if not found:
+                raise Ended(part)
+            t = min(found, key=order.index)
+            if holder is not None:
+                forest[t] = holder, self.over(holder, part)[0]
+            self.lay(forest, less(part, t), t, order)
+
+    def paper(self):
+        lot = self.walk(self.things)[1]
+        if lot is None:
+            return None
+        notes = []
+        for t in lot:
+            part = [part for part in self.parts(less(lot, t)) if not self.over(t, part)][0]
+            notes.append((part, tuple(min(c for c in part if ("around", i) not in self.lets[t, c])
+                                      for i in range(self.rooms[t]))))
+        return lot, tuple(notes)
+
+    def one_part(self, lot):
+        return is_lot(self.rooms, lot) and self.parts(lot) == (lot,)
+
+    def no_right(self, paper):
+        if type(paper) is not tuple or len(paper) != 2:
+            return False
+        lot, notes = paper
+        if not self.one_part(lot) or type(notes) is not tuple or len(notes) != len(lot):
+            return False
+        return all(self.note_right(less(lot, t), t, note) for t, note in zip(lot, notes))
+
+    def note_right(self, rest, t, note):
+        if type(note) is not tuple or len(note) != 2:
+            return False
+        part, bars = note
+        if not self.one_part(part) or not set(part) <= set(rest):
+            return False
+        if type(bars) is not tuple or len(bars) != self.rooms[t]:
+            return False
+        return all(is_number(z) and z in part and ("around", i) not in self.lets[t, z] for i, z in enumerate(bars))
+
+
+def less(lot, t):
+    return tuple(x for x in lot if x != t)
+
+
+def all_books(rooms):
+    """Each book that has one saying of each two things, the lesser one first."""
+    pairs = list(itertools.combinations(range(len(rooms)), 2))
+    rows = [[(x, y, lets) for lets in subsets(all_standings(rooms, x, y))] for x, y in pairs]
+    return [(rooms, sayings) for sayings in itertools.product(*rows)]
+
+
+def some_books(rooms, many, seed):
+    """Books with several sayings, in either order, of few standings or many."""
+    dice = random.Random(seed)
+    for _ in range(many):
+        sayings = []
+        for _ in range(dice.randrange(2 * len(rooms) + 1)):
+            x, y = dice.sample(range(len(rooms)), 2)
+            lost = dice.choice((0.2, 0.4, 0.6))
+            sayings.append((x, y, tuple(each for each in all_standings(rooms, x, y)
+                                        if dice.random() > (0.8 if each == APART else lost))))
+        yield rooms, tuple(sayings)
+
+
+def either(x, y, rooms):
+    """The saying that x and y are one in the other."""
+    return x, y, tuple(all_standings(rooms, x, y)[1:])
+
+
 class Case(unittest.TestCase):
     """A test case that can ask for an error and its what."""
 
@@ -206,3 +331,37 @@ class Case(unittest.TestCase):
         self.refused(errors.BadForest, 1, function, (1, 1), (None, (0, 1)), *rest)
         self.refused(errors.BadForest, 0, function, (1, 1), ((True, 0), 3), *rest)
         self.refused(errors.Ring, 1, function, (1, 1, 1), (None, (2, 0), (1, 0)), *rest)
+
+    def asks_book(self, function, *rest):
+        """The function raises (book), whatever stands behind the book."""
+        for book in (None, 3, "", "ab", (), ((1,),), ((1,), (), ())):
+            self.refused(errors.BadBook, -1, function, book, *rest)
+        self.refused(errors.BadBook, -1, function, ((1, 1), None), *rest)
+        self.refused(errors.BadBook, -1, function, ((1, 1), "in"), *rest)
+        self.asks_rooms(lambda rooms: function((rooms, None), *rest))
+        self.asks_rooms(lambda rooms: function((rooms, (7,)), *rest))
+        self.refused(errors.TooMany, 401, function, ((1, 1), ((0, 1, ()),) * 400 + (None,)), *rest)
+        self.refused(errors.BadSaying, 0, function, ((1, 1), (None, None)), *rest)
+        self.refused(errors.BadSaying, 1, function, ((1, 1), ((0, 1, ()), (0, 2, ()), 3)), *rest)
+        self.refused(errors.BadSaying, 0, function, ((1, 1), ((0, 1, (("in", False),)),)), *rest)
+
+    def quickly(self, seconds=20):
+        """What stands in this block fails if it takes longer."""
+        return _Quickly(self, seconds)
+
+
+class _Quickly:
+
+    def __init__(self, case, seconds):
+        self.case = case
+        self.seconds = seconds
+
+    def __enter__(self):
+        signal.signal(signal.SIGALRM, self.late)
+        signal.alarm(self.seconds)
+
+    def __exit__(self, *told):
+        signal.alarm(0)
+
+    def late(self, *told):
+        self.case.fail("no answer within {} seconds".format(self.seconds))

@@ -10,6 +10,13 @@ NAMES = {
                 "beneath": "rooms forest x", "hung": "rooms forest x place"},
     "standings": {"standings": "rooms x y", "turned": "standing", "standing": "rooms forest x y"},
     "sayings": {"is_saying": "rooms saying", "contrary": "rooms saying", "about": "saying"},
+    "books": {"made_book": "thing", "is_book": "thing", "let": "book x y", "keeps": "book forest",
+              "broken": "book forest"},
+    "links": {"linked": "book x y", "parts": "book lot"},
+    "free": {"over": "book t part", "free": "book lot"},
+    "solver": {"form": "book", "form_by": "book order", "barred": "book", "keepable": "book"},
+    "papers": {"no_paper": "book"},
+    "kernel": {"no_right": "book paper"},
 }
 
 
