@@ -50,22 +50,23 @@ def let(book, x, y):
 
 def keeps(book, forest):
     """Whether this is a book and a form of it."""
-    return is_book(book) and is_forest(book[0], forest) and _first_broken(book, forest) is None
+    return is_book(book) and is_forest(book[0], forest) and first_broken(book, forest) is None
 
 
 def broken(book, forest):
     """The index of the first saying that the forest does not keep, or None."""
     made_book(book)
     made_forest(book[0], forest)
-    return _first_broken(book, forest)
+    return first_broken(book, forest)
 
 
-def _both(found, lets):
-    return tuple([each for each in found if each in lets])
-
-
-def _first_broken(book, forest):
+def first_broken(book, forest):
+    """The same as broken, of what is known to be a book and a forest of its rooms."""
     for index, (x, y, lets) in enumerate(book[1]):
         if standing_in(forest, x, y) not in lets:
             return index
     return None
+
+
+def _both(found, lets):
+    return tuple([each for each in found if each in lets])

@@ -1,6 +1,9 @@
 """Checks that many files share: numbers, pairs, things, lots."""
 
-from nestsay.errors import BadLot, BadThing
+from nestsay.errors import BadLot, BadThing, TooMany
+
+# Tables and counts of all least forms are told up to so many things.
+MOST_TOLD = 10
 
 
 def is_number(thing):
@@ -46,6 +49,12 @@ def check_two(rooms, x, y):
     check_thing(rooms, x)
     if not has_thing(rooms, y) or x == y:
         raise BadThing(y)
+
+
+def check_few(rooms):
+    """Refuse more things than tables and counts are told of."""
+    if len(rooms) > MOST_TOLD:
+        raise TooMany(len(rooms))
 
 
 def check_lot(rooms, lot):

@@ -55,7 +55,24 @@ def hung(rooms, forest, x, place):
         raise BadPlace(place)
     if place is not None and room_within(forest, place[0], x) is not None:
         raise Within(place[0])
+    return put(forest, x, place)
+
+
+def put(forest, x, place):
+    """The same as hung, of what it would not refuse."""
     return forest[:x] + (place,) + forest[x + 1:]
+
+
+def put_all(forest, hangs):
+    """The forest behind all the hangs, done in their order."""
+    for x, place in hangs:
+        forest = put(forest, x, place)
+    return forest
+
+
+def by_depth(forest):
+    """All things, those of lesser depth first, of equal depth the lesser first."""
+    return tuple(sorted(range(len(forest)), key=lambda x: (_depth(forest, x), x)))
 
 
 def room_within(forest, x, y):
@@ -64,6 +81,14 @@ def room_within(forest, x, y):
     while place is not None and place[0] != y:
         place = forest[place[0]]
     return None if place is None else place[1]
+
+
+def _depth(forest, x):
+    depth = 0
+    while forest[x] is not None:
+        x = forest[x][0]
+        depth = depth + 1
+    return depth
 
 
 def _may_have(rooms, x, place):

@@ -15,12 +15,25 @@ class Net:
         self.whole = (1 << len(rooms)) - 1
         self.links = [0 for _ in rooms]
         self.holds = [[self.whole & ~(1 << t) for _ in range(many)] for t, many in enumerate(rooms)]
+        self.hear(sayings)
+
+    def hear(self, sayings):
+        """Take in what the sayings say."""
         for x, y, lets in sayings:
             if APART not in lets:
                 self.links[x] = self.links[x] | (1 << y)
                 self.links[y] = self.links[y] | (1 << x)
             _shut(self.holds[x], "around", lets, y)
             _shut(self.holds[y], "in", lets, x)
+
+    def also(self, sayings):
+        """The net of the book with these sayings behind its own; this one stays as it is."""
+        net = Net(((), ()))
+        net.whole = self.whole
+        net.links = list(self.links)
+        net.holds = [list(held) for held in self.holds]
+        net.hear(sayings)
+        return net
 
 
 def bits_of(lot):

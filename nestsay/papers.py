@@ -2,19 +2,22 @@
 
 from nestsay.books import made_book
 from nestsay.free import first_unheld
-from nestsay.nets import Net, least_of, lot_of
-from nestsay.solver import walk_of
+from nestsay.nets import Net, bits_of, least_of, lot_of
+from nestsay.solver import barred_of
 
 
 def no_paper(book):
     """The pair (lot, notes) of a book without a form, or None."""
     made_book(book)
-    net = Net(book)
-    lot = walk_of(net)[1]
+    return paper_of(Net(book))
+
+
+def paper_of(net):
+    """The same as no_paper, of the net of a book."""
+    lot = barred_of(net)
     if lot is None:
         return None
-    things = lot_of(lot)
-    return (things, tuple([_note(net, t, lot) for t in things]))
+    return (lot, tuple([_note(net, t, bits_of(lot)) for t in lot]))
 
 
 def _note(net, t, lot):

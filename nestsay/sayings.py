@@ -16,8 +16,7 @@ def contrary(rooms, saying):
     made_rooms(rooms)
     if not fits_saying(rooms, saying):
         raise BadSaying(0)
-    x, y, lets = saying
-    return (x, y, tuple([each for each in every_standing(rooms, x, y) if each not in lets]))
+    return other_side(rooms, saying)
 
 
 def about(saying):
@@ -34,3 +33,9 @@ def fits_saying(rooms, saying):
     if not has_thing(rooms, x) or not has_thing(rooms, y) or x == y:
         return False
     return fits_lets(rooms, x, y, lets)
+
+
+def other_side(rooms, saying):
+    """The same as contrary, of what is known to be rooms and a saying."""
+    x, y, lets = saying
+    return (x, y, tuple([each for each in every_standing(rooms, x, y) if each not in lets]))

@@ -3,15 +3,16 @@
 from nestsay.books import made_book
 from nestsay.checks import has_thing
 from nestsay.errors import BadOrder
+from nestsay.forests import room_within
 from nestsay.free import first_unheld, rooms_over
 from nestsay.links import parts_of
-from nestsay.nets import Net, has_bit, lot_of, without
+from nestsay.nets import Net, has_bit, least_of, lot_of, without
 
 
 def form(book):
     """The forest that the walk makes, or None."""
     made_book(book)
-    return walk_of(Net(book))[0]
+    return form_of(Net(book))
 
 
 def form_by(book, order):
@@ -19,14 +20,14 @@ def form_by(book, order):
     made_book(book)
     if not _is_order(book[0], order):
         raise BadOrder(-1)
-    return walked(Net(book), order)[0]
+    net = Net(book)
+    return walked(net, order, _floor(net))[0]
 
 
 def barred(book):
     """The part that ended the walk, or None."""
     made_book(book)
-    part = walk_of(Net(book))[1]
-    return None if part is None else lot_of(part)
+    return barred_of(Net(book))
 
 
 def keepable(book):
@@ -34,13 +35,23 @@ def keepable(book):
     return form(book) is not None
 
 
-def walk_of(net):
-    """The same as walked, with the least free thing of each part."""
-    return walked(net, lot_of(net.whole))
+def form_of(net):
+    """The same as form, of the net of a book."""
+    return walked(net, lot_of(net.whole), _floor(net))[0]
 
 
-def walked(net, order):
-    """The forest that the walk makes and the part that ended it, as bits; one of the two is None."""
+def barred_of(net):
+    """The same as barred, of the net of a book."""
+    part = walked(net, lot_of(net.whole), _floor(net))[1]
+    return None if part is None else lot_of(part)
+
+
+def walked(net, order, before):
+    """The forest that the walk makes and the part that ended it, as bits; one of the two is None.
+
+    Of the rooms over a part it takes the one in which the part's least thing
+    lies in the forest before, if that is one of them, else the least.
+    """
     forest = [None for _ in order]
     # The part that is due next stands last.
     waiting = [(part, None) for part in reversed(parts_of(net, net.whole))]
@@ -50,10 +61,21 @@ def walked(net, order):
         if t is None:
             return (None, part)
         if holder is not None:
-            forest[t] = (holder, rooms_over(net, holder, part)[0])
+            forest[t] = (holder, _room_for(net, holder, part, before))
         rest = without(part, t)
         waiting.extend([(each, t) for each in reversed(parts_of(net, rest))])
     return (tuple(forest), None)
+
+
+def _room_for(net, t, part, before):
+    rooms = rooms_over(net, t, part)
+    told = room_within(before, least_of(part), t)
+    return told if told in rooms else rooms[0]
+
+
+def _floor(net):
+    """The forest in which all things lie on the floor."""
+    return tuple([None for _ in net.holds])
 
 
 def _first_free(net, part, order):

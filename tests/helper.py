@@ -269,6 +269,43 @@ class Look:
             return False
         return all(is_number(z) and z in part and ("around", i) not in self.lets[t, z] for i, z in enumerate(bars))
 
+    def forms(self, forests):
+        return [forest for forest in forests if self.broken(forest) is None]
+
+    def under(self, forest, x):
+        """The lot of x and all that lies in it, however deep."""
+        return tuple(y for y in self.things if y == x or x in [holder for holder, _ in climb(forest, y)])
+
+    def least(self, forest):
+        return self.broken(forest) is None and all(self.one_part(self.under(forest, x)) for x in self.things)
+
+    def in_order(self, forest, lot=None):
+        """What least forms are ordered by."""
+        row = []
+        for part in self.parts(self.things if lot is None else lot):
+            t = [x for x in part if forest[x] is None or forest[x][0] not in part][0]
+            row.append((0 if forest[t] is None else forest[t][1], t, self.in_order(forest, less(part, t))))
+        return row
+
+    def least_forms(self, forests):
+        """All least forms in their order."""
+        return sorted((forest for forest in forests if self.least(forest)), key=self.in_order)
+
+    def mend(self, forest):
+        """What mended has to tell of a book that can be kept."""
+        target = [None] * len(self.rooms)
+        self.mend_lot(forest, target, self.things, None)
+        return tuple(target)
+
+    def mend_lot(self, forest, target, lot, holder):
+        for part in self.parts(lot):
+            t = min(self.free(part), key=lambda x: (len(climb(forest, x)), x))
+            if holder is not None:
+                rooms = self.over(holder, part)
+                kind, room = stands(forest, part[0], holder)
+                target[t] = holder, room if kind == "in" and room in rooms else rooms[0]
+            self.mend_lot(forest, target, less(part, t), t)
+
 
 def less(lot, t):
     return tuple(x for x in lot if x != t)
@@ -292,6 +329,11 @@ def some_books(rooms, many, seed):
             sayings.append((x, y, tuple(each for each in all_standings(rooms, x, y)
                                         if dice.random() > (0.8 if each == APART else lost))))
         yield rooms, tuple(sayings)
+
+
+def lies_within(one, two):
+    """Whether what lies in a room in the first forest lies in that room in the second."""
+    return all(place in climb(two, x) for x in range(len(one)) for place in climb(one, x))
 
 
 def either(x, y, rooms):
@@ -344,6 +386,32 @@ class Case(unittest.TestCase):
         self.refused(errors.BadSaying, 0, function, ((1, 1), (None, None)), *rest)
         self.refused(errors.BadSaying, 1, function, ((1, 1), ((0, 1, ()), (0, 2, ()), 3)), *rest)
         self.refused(errors.BadSaying, 0, function, ((1, 1), ((0, 1, (("in", False),)),)), *rest)
+
+    def asks_forest_of_book(self, function, *rest):
+        """The function raises (forest) with the book's rooms, whatever stands behind the forest."""
+        self.asks_forest(lambda rooms, *told: function((rooms, ()), *told), *rest)
+
+    def asks_things(self, function, book, *rest):
+        """The function raises (thing) for two unlike things behind a book of three."""
+        for x in (-1, 3, 10 ** 900, None, "0", (0,), ()):
+            self.refused(errors.BadThing, x, function, book, x, None, *rest)
+            self.refused(errors.BadThing, x, function, book, 1, x, *rest)
+        for x in range(3):
+            self.refused(errors.BadThing, x, function, book, x, x, *rest)
+
+    def asks_clause(self, function, book):
+        """The function raises (clause) behind a book of two things or more with rooms."""
+        for clause in (None, 3, "", "ab", True):
+            self.refused(errors.BadClause, -1, function, book, clause)
+        self.refused(errors.TooMany, 41, function, book, ((0, 1, ()),) * 41)
+        self.refused(errors.TooMany, 41, function, book, (None,) * 41)
+        self.refused(errors.BadSaying, 39, function, book, ((0, 1, ()),) * 39 + (None,))
+        self.refused(errors.BadSaying, 0, function, book, (None, 3))
+        self.refused(errors.BadSaying, 1, function, book, ((0, 1, ()), (0, 0, ()), 3))
+        self.refused(errors.BadSaying, 2, function, book, ((0, 1, ()), (1, 0, ()), (0, len(book[0]), ())))
+        self.refused(errors.BadSaying, 0, function, book, ((0, 1, (("in", False),)),))
+        self.refused(errors.BadSaying, 0, function, book, ((0, 1, (("in", 0), APART)),))
+        self.refused(errors.BadSaying, 0, function, book, (0, 1, ()))
 
     def quickly(self, seconds=20):
         """What stands in this block fails if it takes longer."""

@@ -17,6 +17,12 @@ NAMES = {
     "solver": {"form": "book", "form_by": "book order", "barred": "book", "keepable": "book"},
     "papers": {"no_paper": "book"},
     "kernel": {"no_right": "book paper"},
+    "tight": {"possible": "book x y", "tight": "book", "implies": "one two", "alike": "one two", "parting": "one two"},
+    "follows": {"follows": "book clause", "against": "book clause", "why": "book clause"},
+    "whose": {"binding": "book", "reasons": "book clause", "lean": "book"},
+    "leastforms": {"least_right": "book forest"},
+    "counts": {"count": "book", "nth": "book k", "number": "book forest"},
+    "mending": {"mended": "book forest"},
 }
 
 

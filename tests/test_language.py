@@ -15,8 +15,17 @@ LET_BUILTINS = """
     ord repr any all divmod iter next map ValueError KeyError super
 """.split()
 BARRED_WORDS = re.compile(r"\b(typing|typing_extensions|enum|Enum|IntEnum|StrEnum|Flag|IntFlag|Generic|Protocol|ABC"
-                          r"|ABCMeta|namedtuple|NamedTuple|TypedDict|TYPE_CHECKING|abstractmethod|law|elements"
-                          r"|register|mro|input|open)\b|dataclass|overload|contextmanager|_wall")
+                          r"|ABCMeta|namedtuple|NamedTuple|TypedDict|TYPE_CHECKING|abstractmethod"
+                          r")\b|dataclass|overload|contextmanager|_wall|_WallAttr")
+BARRED_NAMES = re.compile(r"(register|mro|elements|open|input|law|version_info|with_traceback|add_note|type|vars|dir|id"
+                          r"|compile|copyright|credits|license|exit|quit|help|eval|exec|globals|locals|os|sys|gc"
+                          r"|format|format_map|_(pe|dcw|enum|cm|twin_re|lay|law|stub)_.*|_sre.*|__.*"
+                          r"|_(cold|tuplegetter|outside|record|written_out|member_names)[_0-9]*)\Z")
+METHODS = """
+    append clear copy count endswith extend find get index insert isalnum isalpha isdigit islower isspace isupper
+    items join keys ljust lower lstrip partition pop remove replace reverse rfind rjust rpartition rsplit rstrip
+    setdefault split splitlines startswith strip update upper values zfill bit_length
+""".split()
 
 
 def bound(tree):
@@ -26,6 +35,14 @@ def bound(tree):
             yield node.arg
         elif isinstance(node, ast.Name) and not isinstance(node.ctx, ast.Load):
             yield node.id
+
+
+def named(tree):
+    """All names that stand in a file, attributes and keywords too."""
+    for node in ast.walk(tree):
+        for field in ("id", "attr", "arg", "name", "asname"):
+            if isinstance(getattr(node, field, None), str):
+                yield getattr(node, field)
 
 
 def functions(tree):
@@ -92,6 +109,32 @@ class Language(unittest.TestCase):
                 if isinstance(node, ast.Constant):
                     self.assertNotIsInstance(node.value, (float, complex), (name, node.lineno))
                 self.assertNotIsInstance(node, (ast.Div, ast.Global, ast.Set, ast.SetComp, ast.AsyncFunctionDef), name)
+
+    def test_barred_names(self):
+        for name, tree in TREES.items():
+            for each in named(tree):
+                if each not in ("__init__", "nestsay"):
+                    self.assertIsNone(BARRED_NAMES.match(each), (name, each))
+
+    def test_methods(self):
+        own = {node.name for tree in TREES.values() for top in tree.body if isinstance(top, ast.ClassDef)
+               for node in functions(top)}
+        kept = {node.attr for tree in TREES.values() for node in ast.walk(tree)
+                if isinstance(node, ast.Attribute) and isinstance(node.ctx, ast.Store)}
+        self.assertFalse(own & kept)
+        self.assertFalse((own | kept) & {each for value in ("", 0, [], {}, ()) for each in dir(value)} - {"__init__"})
+        for name, tree in TREES.items():
+            for node in ast.walk(tree):
+                if isinstance(node, ast.Call) and isinstance(node.func, ast.Attribute):
+                    self.assertIn(node.func.attr, METHODS + sorted(own), (name, node.lineno))
+                elif isinstance(node, ast.Attribute):
+                    self.assertIn(node.attr, METHODS + sorted(own | kept), (name, node.lineno))
+
+    def test_texts(self):
+        for name, tree in TREES.items():
+            for node in ast.walk(tree):
+                if isinstance(node, ast.Constant) and isinstance(node.value, str):
+                    self.assertNotIn("%", node.value, (name, node.lineno))
 
     def test_words(self):
         for path in FILES:
