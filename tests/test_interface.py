@@ -23,6 +23,18 @@ NAMES = {
     "leastforms": {"least_right": "book forest"},
     "counts": {"count": "book", "nth": "book k", "number": "book forest"},
     "mending": {"mended": "book forest"},
+    "deeds": {"hangs": "book forest deed", "after": "book forest deed", "deeds": "book forest"},
+    "walks": {"walk": "book one two"},
+    "journal": {"base_text": "forest", "open_text": "number hangs", "lay_text": "number forest", "shut_text": "number",
+                "read_journal": "rooms text", "base_only": "rooms text"},
+    "machine": {"made_yard": "rooms yard", "is_yard": "rooms yard", "new_yard": "rooms forest",
+                "made_code": "rooms code", "step": "rooms yard row", "run": "rooms yard code", "off": "yard",
+                "cut": "rooms yard code rows signs"},
+    "crane": {"hang_code": "hangs", "deed_code": "book forest deed number", "walk_code": "book forest walk number",
+              "lay": "rooms forest target", "lay_code": "rooms forest target number"},
+    "opening": {"pace": "rooms yard", "opening_code": "rooms yard", "opened": "rooms yard",
+                "healing_code": "book yard", "healed": "book yard", "tidied": "rooms yard", "done": "rooms yard",
+                "rest_code": "book forest walk yard"},
 }
 
 
