@@ -31,10 +31,7 @@ class Tally:
         """How many ways the parts of the lot may lie in the holder, or on the floor if that is None."""
         many = 1
         for part in parts_of(self.net, lot):
-            many = many * len(self.places_in(holder, part))
-            if many == 0:
-                return 0
-            many = many * self.of_part(part)
+            many = many * len(self.places_in(holder, part)) * self.of_part(part)
         return many
 
     def places_in(self, holder, part):
