@@ -2,10 +2,11 @@
 
 
 class Refused(ValueError):
-    """What the package refuses; what tells the argument or its place."""
+    """What the package refuses; what tells the argument or its place, kind is the name of the error."""
 
     def __init__(self, what):
         self.what = what
+        self.kind = self.__class__.__name__
 
 
 class BadRooms(Refused):

@@ -8,10 +8,13 @@ from nestsay.nets import Net, bits_of, has_bit
 
 def no_right(book, paper):
     """Whether this is a book, and a paper that shows that it cannot be kept."""
-    if not is_book(book) or not is_pair(paper):
+    return is_book(book) and paper_shows(book[0], Net(book), paper)
+
+
+def paper_shows(rooms, net, paper):
+    """The same as no_right, of the net of a book with these rooms."""
+    if not is_pair(paper):
         return False
-    rooms = book[0]
-    net = Net(book)
     lot, notes = paper
     if not _whole_part(rooms, net, lot):
         return False

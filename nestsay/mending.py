@@ -15,4 +15,4 @@ def mended(book, forest):
     lot = barred_of(net)
     if lot is not None:
         raise Barred(lot)
-    return walked(net, by_depth(forest), forest)[0]
+    return walked(net, by_depth(forest), forest, {})[0]

@@ -21,7 +21,7 @@ def form_by(book, order):
     if not _is_order(book[0], order):
         raise BadOrder(-1)
     net = Net(book)
-    return walked(net, order, _floor(net))[0]
+    return walked(net, order, _floor(net), {})[0]
 
 
 def barred(book):
@@ -37,27 +37,36 @@ def keepable(book):
 
 def form_of(net):
     """The same as form, of the net of a book."""
-    return walked(net, lot_of(net.whole), _floor(net))[0]
+    return plain_walk(net, {})[0]
 
 
 def barred_of(net):
     """The same as barred, of the net of a book."""
-    part = walked(net, lot_of(net.whole), _floor(net))[1]
+    part = plain_walk(net, {})[1]
     return None if part is None else lot_of(part)
 
 
-def walked(net, order, before):
+def plain_walk(net, known):
+    """What walked tells of the walk that takes the least free things and the least rooms."""
+    return walked(net, lot_of(net.whole), _floor(net), known)
+
+
+def walked(net, order, before, known):
     """The forest that the walk makes and the part that ended it, as bits; one of the two is None.
 
     Of the rooms over a part it takes the one in which the part's least thing
-    lies in the forest before, if that is one of them, else the least.
+    lies in the forest before, if that is one of them, else the least. What is
+    known has for parts the free thing that stands first in the order, None if
+    there is none; a part that is not there is put in behind all others.
     """
     forest = [None for _ in order]
     # The part that is due next stands last.
     waiting = [(part, None) for part in reversed(parts_of(net, net.whole))]
     while waiting:
         part, holder = waiting.pop()
-        t = _first_free(net, part, order)
+        if part not in known:
+            known[part] = _first_free(net, part, order)
+        t = known[part]
         if t is None:
             return (None, part)
         if holder is not None:

@@ -413,6 +413,39 @@ class Case(unittest.TestCase):
         self.refused(errors.BadSaying, 0, function, book, ((0, 1, (("in", 0), APART)),))
         self.refused(errors.BadSaying, 0, function, book, (0, 1, ()))
 
+    def asks_world(self, function, *rest):
+        """The function raises (world), whatever stands behind the world."""
+        for world in (None, 3, "", "ab", (), ((),), ((), (), ()), ((), None), (("a",), ()), ("a", ((),)), (None, None)):
+            self.refused(errors.BadWorld, -1, function, world, *rest)
+        self.refused(errors.TooMany, 25, function, ((None,) * 25, (None,) * 25), *rest)
+        for name in (None, 3, "", "A", "1a", "a-b", "in", "barred", "abcdefghijklm", ("a",)):
+            self.refused(errors.BadWorld, 0, function, ((name, None), ((), ())), *rest)
+        self.refused(errors.BadWorld, 2, function, (("a", "b", "a", 3), ((), ("a", "b"), (), ())), *rest)
+        for doors in (None, "r", ("r", "r"), ("r", 3), ("in",), ("a", "b", "c", "d", "e")):
+            self.refused(errors.BadWorld, 1, function, (("a", "b", "b"), ((), doors, ())), *rest)
+
+    def asks_text(self, function, *ahead):
+        """The function raises (text) behind what stands ahead of the text, also where the text begins wrongly."""
+        for text in (None, 3, True, (), ("a",), b"a"):
+            self.refused(errors.BadText, -1, function, *ahead, text)
+        for code in (0, 9, 10, 13, 31, 37, 127, 128, 160, 255, 0x3b1, 0x1f600):
+            self.refused(errors.BadText, 0, function, *ahead, chr(code))
+            self.refused(errors.BadText, 7, function, *ahead, ")zz ,, " + chr(code) + "\n")
+        self.refused(errors.BadText, 20000, function, *ahead, ")" * 20001)
+        self.refused(errors.BadText, 20000, function, *ahead, " " * 30000 + "\n")
+        self.refused(errors.BadText, 19999, function, *ahead, " " * 19999 + "\n" * 9)
+
+    def as_read(self, look, function, *told):
+        """The function does what the tests' own look at its arguments does."""
+        try:
+            found = look(*told)
+        except Exception as why:
+            if not hasattr(why, "fault"):
+                raise
+            self.refused(why.fault[0], why.fault[1], function, *told)
+            return
+        self.assertEqual(function(*told), found, told)
+
     def quickly(self, seconds=20):
         """What stands in this block fails if it takes longer."""
         return _Quickly(self, seconds)
@@ -433,3 +466,17 @@ class _Quickly:
 
     def late(self, *told):
         self.case.fail("no answer within {} seconds".format(self.seconds))
+
+
+NAMES = "a b c yes no r s1 abcdefghijkl z9 k l m n o p q t u v w x y z d e f g h i j r0 s0".split()
+
+
+def world_of(rooms):
+    """A world whose things have these rooms; names of rooms are names of things too."""
+    return tuple(NAMES[:len(rooms)]), tuple(tuple(NAMES[x + 2:x + 2 + many]) for x, many in enumerate(rooms))
+
+
+def all_sayings(rooms):
+    """Every saying about things with these rooms."""
+    return [(x, y, lets) for x, y in itertools.permutations(range(len(rooms)), 2)
+            for lets in subsets(all_standings(rooms, x, y))]

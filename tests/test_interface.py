@@ -35,6 +35,18 @@ NAMES = {
     "opening": {"pace": "rooms yard", "opening_code": "rooms yard", "opened": "rooms yard",
                 "healing_code": "book yard", "healed": "book yard", "tidied": "rooms yard", "done": "rooms yard",
                 "rest_code": "book forest walk yard"},
+    "worlds": {"made_world": "thing", "is_world": "thing", "rooms_of": "world"},
+    "worldtexts": {"read_world": "text", "print_world": "world"},
+    "readsaying": {"read_saying": "world text"},
+    "sayingtexts": {"print_saying": "world saying"},
+    "questiontexts": {"read_question": "world text", "print_question": "world question"},
+    "answers": {"made_question": "rooms thing", "is_question": "rooms thing", "contrary_question": "rooms question",
+                "answer": "book question", "answer_right": "book question thing"},
+    "foresttexts": {"read_forest": "world text", "print_forest": "world forest"},
+    "papertexts": {"read_paper": "world text", "print_paper": "world paper"},
+    "answertexts": {"read_answer": "world text", "print_answer": "world answer"},
+    "entrytexts": {"read_entry": "world text", "print_entry": "world entry", "read_entries": "world texts",
+                   "print_entries": "world entries", "book_of": "world entries"},
 }
 
 

@@ -113,7 +113,8 @@ class Language(unittest.TestCase):
     def test_barred_names(self):
         for name, tree in TREES.items():
             for each in named(tree):
-                if each not in ("__init__", "nestsay"):
+                # The last two stand only where the name of an error's class is read.
+                if each not in ("__init__", "nestsay", "__class__", "__name__"):
                     self.assertIsNone(BARRED_NAMES.match(each), (name, each))
 
     def test_methods(self):
@@ -127,8 +128,14 @@ class Language(unittest.TestCase):
             for node in ast.walk(tree):
                 if isinstance(node, ast.Call) and isinstance(node.func, ast.Attribute):
                     self.assertIn(node.func.attr, METHODS + sorted(own), (name, node.lineno))
-                elif isinstance(node, ast.Attribute):
+                elif isinstance(node, ast.Attribute) and node.attr not in ("__class__", "__name__"):
                     self.assertIn(node.attr, METHODS + sorted(own | kept), (name, node.lineno))
+
+    def test_class_names(self):
+        for name, path in zip(TREES, FILES):
+            text = path.read_text().replace("self.__class__.__name__", "")
+            self.assertNotIn("__class__", text, name)
+            self.assertNotIn("__name__", text, name)
 
     def test_texts(self):
         for name, tree in TREES.items():
