@@ -17,14 +17,15 @@ def reasons(book, clause):
     made_book(book)
     rooms, sayings = book
     check_clause(rooms, clause)
-    against = contraries(rooms, clause)
-    left = _indices(sayings)
-    if not _clash(book, left, against):
+    more = contraries(rooms, clause)
+    if form_of(Net(book).also(more)) is not None:
         return None
-    for index in range(len(sayings)):
-        rest = _less(left, index)
-        if _clash(book, rest, against):
-            left = rest
+    nets = _nets_from(book)
+    left = []
+    while form_of(nets[-1].also(more)) is not None:
+        index = _last_needed(nets, left[-1] + 1 if left else 0, more)
+        left.append(index)
+        more = more + [sayings[index]]
     return tuple(left)
 
 
@@ -32,24 +33,36 @@ def lean(book):
     """The book without the sayings that follow from the others."""
     made_book(book)
     rooms, sayings = book
-    left = _indices(sayings)
+    left = list(range(len(sayings)))
     for index, saying in enumerate(sayings):
-        rest = _less(left, index)
-        if _clash(book, rest, [other_side(rooms, saying)]):
+        rest = [each for each in left if each != index]
+        said = [sayings[each] for each in rest]
+        if form_of(Net((rooms, said + [other_side(rooms, saying)]))) is None:
             left = rest
     return (rooms, tuple([sayings[index] for index in left]))
 
 
-def _indices(sayings):
-    return list(range(len(sayings)))
-
-
-def _less(indices, index):
-    return [each for each in indices if each != index]
-
-
-def _clash(book, indices, more):
-    """Whether no forest keeps these sayings of the book and more ones."""
+def _nets_from(book):
+    """For each index the net of the sayings from there on; at last the net of none."""
     rooms, sayings = book
-    said = [sayings[index] for index in indices]
-    return form_of(Net((rooms, said + more))) is None
+    nets = [Net((rooms, ()))]
+    for saying in reversed(sayings):
+        nets.append(nets[-1].also([saying]))
+    return nets[::-1]
+
+
+def _last_needed(nets, first, more):
+    """The last index from which on the sayings cannot be kept with more ones; from the first one on they cannot.
+
+    Those ahead of it are struck: each could be spared as long as those behind
+    it were all still there. The later an index is, the fewer sayings clash.
+    """
+    low = first
+    high = len(nets) - 1
+    while high - low > 1:
+        middle = (low + high) // 2
+        if form_of(nets[middle].also(more)) is None:
+            low = middle
+        else:
+            high = middle
+    return low

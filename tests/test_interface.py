@@ -47,6 +47,14 @@ NAMES = {
     "answertexts": {"read_answer": "world text", "print_answer": "world answer"},
     "entrytexts": {"read_entry": "world text", "print_entry": "world entry", "read_entries": "world texts",
                    "print_entries": "world entries", "book_of": "world entries"},
+    "desk": {"desk_of": "rows"},
+}
+CLASSES = {
+    "kept": {"Kept": {"__init__": "rooms", "say": "saying", "strike": "index", "undo": "", "redo": "", "book": "",
+                      "form": "", "barred": "", "looks": ""}},
+    "desk": {"Desk": {"__init__": "world", "thing": "hand name doors", "say": "hand name saying", "back": "hand name",
+                      "undo": "hand", "redo": "hand", "world": "", "entries": "", "book": "", "ask": "question",
+                      "where": "x y", "whose": "", "whose_for": "clause", "row": "text", "text": ""}},
 }
 
 
@@ -60,3 +68,14 @@ class Interface(unittest.TestCase):
                 self.assertTrue(inspect.isfunction(function), name)
                 self.assertEqual(function.__module__, "nestsay." + file)
                 self.assertEqual(list(inspect.signature(function).parameters), told.split(), name)
+
+    def test_each_method_is_defined_in_its_class(self):
+        for file, classes in CLASSES.items():
+            for name, methods in classes.items():
+                made = getattr(importlib.import_module("nestsay." + file), name)
+                self.assertTrue(inspect.isclass(made), name)
+                self.assertEqual(made.__module__, "nestsay." + file)
+                for method, told in methods.items():
+                    self.assertTrue(inspect.isfunction(vars(made).get(method)), (name, method))
+                    parameters = list(inspect.signature(vars(made)[method]).parameters)
+                    self.assertEqual(parameters, ["self"] + told.split(), (name, method))
