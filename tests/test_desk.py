@@ -10,7 +10,7 @@ from test_quick import said_of, some_forest
 from nestsay.answers import answer
 from nestsay.desk import Desk, desk_of
 from nestsay.entrytexts import print_entries
-from nestsay.errors import (BadDoors, BadName, BadQuestion, BadRow, BadSaying, BadThing, NoSaying, NothingToRedo,
+from nestsay.errors import (BadDoors, BadName, BadQuestion, BadRow, BadSaying, NoSaying, NothingToRedo,
                             NothingToUndo, TooMany, Twice)
 from nestsay.follows import follows
 from nestsay.tight import possible
@@ -195,29 +195,28 @@ class UndoAndRedo(Case):
         desk.undo("ann")
         self.refused(NothingToUndo, "ann", desk.undo, "ann")
 
+    def deeds_of_ann(self, many):
+        """A desk on which bob said s1, and then ann did so many deeds."""
+        desk = desk_with(("bob", "s1", AWAY))
+        for at in range(many):
+            if at % 3 == 2:
+                desk.back("ann", "s" + str(at - 1))
+            else:
+                desk.say("ann", "s" + str(at), ANY)
+        return desk
+
     def test_100_and_101_deeds_of_a_hand(self):
-        for many in (99, 100, 101, 130):
-            desk = desk_with(("bob", "s1", AWAY))
-            for at in range(many):
-                if at % 3 == 2:
-                    desk.back("ann", "s" + str(at - 1))
-                else:
-                    desk.say("ann", "s" + str(at), ANY)
-            done = desk.entries()
-            for _ in range(min(many, 100)):
-                desk.undo("ann")
-            self.refused(NothingToUndo, "ann", desk.undo, "ann")
-            eldest = desk.entries()
+        for many in (99, 100, 101, 102, 103, 130):
+            desk = self.deeds_of_ann(many)
+            done, eldest = desk.entries(), self.deeds_of_ann(max(many - 100, 0)).entries()
             self.assertEqual(len(eldest) == 1, many <= 100)
-            for _ in range(min(many, 100)):
-                desk.redo("ann")
-            self.refused(NothingToRedo, "ann", desk.redo, "ann")
-            self.assertEqual(desk.entries(), done)
-            for _ in range(min(many, 100)):
-                desk.undo("ann")
-            self.assertEqual(desk.entries(), eldest)
+            for word, refusal, left in (("undo", NothingToUndo, eldest), ("redo", NothingToRedo, done)) * 2:
+                for _ in range(min(many, 100)):
+                    getattr(desk, word)("ann")
+                self.refused(refusal, "ann", getattr(desk, word), "ann")
+                self.assertEqual(desk.entries(), left)
             desk.undo("bob")
-            self.assertEqual(desk.entries(), eldest[1:])
+            self.assertEqual(desk.entries(), done[1:])
 
     def test_400_entries(self):
         desk = desk_with(*[(HANDS[at % 4], "s" + str(at), ANY) for at in range(400)])
@@ -494,9 +493,8 @@ class WholeRuns(Case):
             for at, saying in enumerate(said_of(rooms, some_forest(rooms, dice), dice, 0.5)):
                 desk.say(HANDS[at % 4], "s" + str(at), saying)
             self.assertIsNone(desk.whose())
-            for question in (("sure", ((saying,) for saying in desk.book()[1][:8])),):
-                rows = tuple(question[1])
-                self.assertEqual(desk.ask(("sure", rows))[0], "yes")
-                self.assertEqual(desk.ask(("may", rows))[:2], ("yes", 0))
+            rows = tuple((saying,) for saying in desk.book()[1][:8])
+            self.assertEqual(desk.ask(("sure", rows))[0], "yes")
+            self.assertEqual(desk.ask(("may", rows))[:2], ("yes", 0))
             for x in range(1, 24):
                 self.assertEqual(desk.where(0, x), possible(desk.book(), 0, x))

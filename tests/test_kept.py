@@ -142,27 +142,26 @@ class Deeds(Case):
         self.refused(NothingToRedo, 0, house.redo)
         self.assertEqual(house.book()[1], (LINK01, LINK12))
 
+    def house_behind(self, many):
+        """A house behind so many deeds."""
+        house = Kept(ROOMS)
+        for at in range(many):
+            if at % 4 == 3:
+                house.strike(0)
+            else:
+                house.say((LINK01, LINK12, AWAY02)[at % 4])
+        return house
+
     def test_100_and_101_deeds(self):
-        for many in (99, 100, 101, 150):
-            house = Kept(ROOMS)
-            for at in range(many):
-                if at % 4 == 3:
-                    house.strike(0)
-                else:
-                    house.say((LINK01, LINK12, AWAY02)[at % 4])
-            done = house.book()
-            for _ in range(min(many, 100)):
-                house.undo()
-            self.refused(NothingToUndo, 0, house.undo)
-            eldest = house.book()
-            for _ in range(min(many, 100)):
-                house.redo()
-            self.refused(NothingToRedo, 0, house.redo)
-            self.assertEqual(house.book(), done)
+        for many in (99, 100, 101, 102, 103, 104, 150):
+            house = self.house_behind(many)
+            done, eldest = house.book(), self.house_behind(max(many - 100, 0)).book()
             self.assertEqual(eldest == (ROOMS, ()), many <= 100)
-            for _ in range(min(many, 100)):
-                house.undo()
-            self.assertEqual(house.book(), eldest)
+            for deed, refusal, left in ((house.undo, NothingToUndo, eldest), (house.redo, NothingToRedo, done)) * 2:
+                for _ in range(min(many, 100)):
+                    deed()
+                self.refused(refusal, 0, deed)
+                self.assertEqual(house.book(), left)
 
     def test_a_deed_behind_undone_ones_is_counted_anew(self):
         house = house_of(ROOMS, *[LINK01] * 100)

@@ -152,6 +152,14 @@ class Sums(Case):
         self.refused(BadText, 31, read_saying, WORLD, "(" * 20 + "a in b and (a in b)" + ")" * 20)
         self.refused(BadText, 23, read_saying, WORLD, "(" * 19 + "not (a in b)" + ")" * 19)
 
+    def test_behind_closed_ones_20_can_be_open_again(self):
+        for ahead in ("(a in b) and ", "not a in b or ", "(not (a in b) or not not a in b) and ", "not(not(a in b))or "):
+            for opened in ("(" * 20, "not " * 20, "(not " * 10):
+                text = ahead + opened + "a in b" + ")" * opened.count("(")
+                self.assertEqual(read_saying(WORLD, text), saying_look(WORLD, text), text)
+                for more in ("(", "not "):
+                    self.refused(BadText, len(ahead + opened), read_saying, WORLD, ahead + opened + more + "a in b")
+
     def test_brackets(self):
         self.refused(BadText, 7, read_saying, WORLD, "(a in b")
         self.refused(BadText, 6, read_saying, WORLD, "a in b)")

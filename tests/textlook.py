@@ -6,7 +6,7 @@ what. They share nothing with the package but the names of the errors.
 
 import re
 
-from helper import APART, all_standings, swapped
+from helper import all_standings, swapped
 from nestsay import errors
 
 RESERVED = """
